@@ -1,0 +1,1 @@
+"""Bargaining with outside options and breakdown."""

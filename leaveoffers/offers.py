@@ -1,0 +1,142 @@
+"""The operations on a negotiation, by backward induction from the final payoffs.
+
+A rational number is a tuple (numerator, denominator) in lowest terms, its denominator at least 1.
+The payoffs of a round are a tuple of two such numbers, the one of player 0 first.
+"""
+
+MOST_AMOUNT = 1000
+MOST_ROUNDS = 12
+MOST_DENOMINATOR = 100
+MOST_PAYOFF = 1000
+
+
+def greatest_common_divisor(first, second):
+    larger = first
+    smaller = second
+    while smaller != 0:
+        rest = larger % smaller
+        larger = smaller
+        smaller = rest
+    return larger
+
+
+def lowest_terms(numerator, denominator):
+    divisor = greatest_common_divisor(numerator, denominator)
+    return (numerator // divisor, denominator // divisor)
+
+
+def is_at_most(left, right):
+    return left[0] * right[1] <= right[0] * left[1]
+
+
+def whole_minus(whole, value):
+    # Still in lowest terms: what divides both new numbers divides both numbers of the value.
+    return (whole * value[1] - value[0], value[1])
+
+
+def is_fraction_within_limits(numerator, denominator):
+    return 1 <= denominator <= MOST_DENOMINATOR and 0 <= numerator <= denominator
+
+
+def are_payoffs_within_limits(payoffs):
+    return all([0 <= value <= MOST_PAYOFF for value in payoffs])
+
+
+def are_proposers_within_limits(proposers):
+    return 1 <= len(proposers) <= MOST_ROUNDS and all([0 <= proposer <= 1 for proposer in proposers])
+
+
+def are_discounts_within_limits(discounts):
+    if len(discounts) != 4:
+        return False
+    return (is_fraction_within_limits(discounts[0], discounts[1])
+            and is_fraction_within_limits(discounts[2], discounts[3]))
+
+
+def is_extra_within_limits(extra):
+    if len(extra) != 8:
+        return False
+    return is_fraction_within_limits(extra[0], extra[1]) and are_payoffs_within_limits(extra[2:])
+
+
+def is_negotiation_within_limits(amount, proposers, discounts, final, extra):
+    return (1 <= amount <= MOST_AMOUNT
+            and are_proposers_within_limits(proposers)
+            and are_discounts_within_limits(discounts)
+            and len(final) == 2
+            and are_payoffs_within_limits(final)
+            and is_extra_within_limits(extra))
+
+
+def refusal(amount, the_round, player, proposers, discounts, final, extra):
+    """The error code of a call, or 0 if it is to be answered."""
+    if not is_negotiation_within_limits(amount, proposers, discounts, final, extra):
+        return -22
+    if not (0 <= the_round < len(proposers) and 0 <= player <= 1):
+        return -2
+    return 0
+
+
+def outside_option(player, extra):
+    return (extra[4 + player], 1)
+
+
+def abandoned_payoff(player, extra):
+    return (extra[6 + player], 1)
+
+
+def continuation_value(player, later, discounts, extra):
+    """x * b + (1 - x) * d * v, with the payoffs of the next round in later."""
+    breakdown_numerator = extra[0]
+    breakdown_denominator = extra[1]
+    breakdown_payoff = extra[2 + player]
+    discount_numerator = discounts[2 * player]
+    discount_denominator = discounts[2 * player + 1]
+    value = later[player]
+    broken_down = breakdown_numerator * breakdown_payoff * discount_denominator * value[1]
+    continued = (breakdown_denominator - breakdown_numerator) * discount_numerator * value[0]
+    return lowest_terms(broken_down + continued, breakdown_denominator * discount_denominator * value[1])
+
+
+def does_leave(responder, later, discounts, extra):
+    return is_at_most(continuation_value(responder, later, discounts, extra), outside_option(responder, extra))
+
+
+def responder_payoff(responder, later, discounts, extra):
+    """The reservation value of the round."""
+    # Who leaves does so because the outside option is the greater of the two, or equal.
+    if does_leave(responder, later, discounts, extra):
+        return outside_option(responder, extra)
+    return continuation_value(responder, later, discounts, extra)
+
+
+def rejection_payoff(proposer, later, discounts, extra):
+    if does_leave(1 - proposer, later, discounts, extra):
+        return abandoned_payoff(proposer, extra)
+    return continuation_value(proposer, later, discounts, extra)
+
+
+def round_payoffs(amount, proposer, later, discounts, extra):
+    reservation = responder_payoff(1 - proposer, later, discounts, extra)
+    agreed = whole_minus(amount, reservation)
+    rejected = rejection_payoff(proposer, later, discounts, extra)
+    gained = agreed if is_at_most(rejected, agreed) else rejected
+    if proposer == 0:
+        return (gained, reservation)
+    return (reservation, gained)
+
+
+def payoffs_from(amount, the_round, proposers, discounts, final, extra):
+    """The payoffs of the round; behind the last round, the final payoffs."""
+    payoffs = ((final[0], 1), (final[1], 1))
+    for proposer in reversed(proposers[the_round:]):
+        payoffs = round_payoffs(amount, proposer, payoffs, discounts, extra)
+    return payoffs
+
+
+def payoff(amount, the_round, player, proposers, discounts, final, extra):
+    code = refusal(amount, the_round, player, proposers, discounts, final, extra)
+    if code != 0:
+        return [code]
+    value = payoffs_from(amount, the_round, proposers, discounts, final, extra)[player]
+    return [0, value[0], value[1]]

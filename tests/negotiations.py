@@ -1,0 +1,135 @@
+"""What the tests share: negotiations, wrong ones, and the document's terms over Fraction."""
+
+import random
+from fractions import Fraction
+
+LARGEST = 4294967295
+
+EXAMPLE = {
+    "amount": 10,
+    "proposers": [0],
+    "discounts": [1, 2, 1, 2],
+    "final": [2, 4],
+    "extra": [1, 4, 0, 0, 0, 3, 1, 0],
+}
+
+
+def changed(**changes):
+    """The document's example with other values in some places."""
+    negotiation = dict(EXAMPLE)
+    negotiation.update(changes)
+    return negotiation
+
+
+def with_value(values, index, value):
+    copy = list(values)
+    copy[index] = value
+    return copy
+
+
+def negotiations_at_the_limits():
+    """Each limit of the table from within."""
+    cases = [changed(amount=1), changed(amount=1000)]
+    cases += [changed(proposers=[0] * n) for n in range(1, 13)]
+    cases += [changed(proposers=[1] * 12)]
+    for fraction in ([0, 1], [1, 1], [0, 100], [100, 100], [99, 100], [1, 100]):
+        cases.append(changed(discounts=fraction + [1, 2]))
+        cases.append(changed(discounts=[1, 2] + fraction))
+        cases.append(changed(extra=fraction + EXAMPLE["extra"][2:]))
+    for value in (0, 1000):
+        cases += [changed(final=with_value(EXAMPLE["final"], k, value)) for k in range(2)]
+        cases += [changed(extra=with_value(EXAMPLE["extra"], k, value)) for k in range(2, 8)]
+    return cases
+
+
+def negotiations_outside_the_limits():
+    """Each limit of the table from without, and every other length that may be handed in."""
+    cases = [changed(amount=amount) for amount in (0, 1001, LARGEST)]
+    cases += [changed(proposers=proposers) for proposers in ([], [0] * 13, [1] * 14, [2], [LARGEST])]
+    cases += [changed(proposers=with_value([0] * 12, k, 2)) for k in range(12)]
+    cases += [changed(discounts=[1] * n) for n in (0, 1, 2, 3, 5, 6)]
+    cases += [changed(final=[1] * n) for n in (0, 1, 3, 4)]
+    cases += [changed(extra=[1] * n) for n in (0, 1, 2, 3, 4, 5, 6, 7, 9, 10)]
+    for fraction in ([0, 0], [1, 0], [0, 101], [101, 101], [2, 1], [100, 99], [101, 100], [LARGEST, LARGEST]):
+        cases.append(changed(discounts=fraction + [1, 2]))
+        cases.append(changed(discounts=[1, 2] + fraction))
+        cases.append(changed(extra=fraction + EXAMPLE["extra"][2:]))
+    for value in (1001, LARGEST):
+        cases += [changed(final=with_value(EXAMPLE["final"], k, value)) for k in range(2)]
+        cases += [changed(extra=with_value(EXAMPLE["extra"], k, value)) for k in range(2, 8)]
+    cases.append(changed(amount=0, proposers=[], discounts=[], final=[], extra=[]))
+    return cases
+
+
+def drawn_fraction(source, most):
+    denominator = source.randint(1, most)
+    return [source.choice([0, denominator, source.randint(0, denominator)]), denominator]
+
+
+def drawn_negotiations(count):
+    """Negotiations of all sorts, the same ones in every run; small numbers make equalities frequent."""
+    source = random.Random(20)
+    cases = []
+    for number in range(count):
+        most = source.choice([3, 3, 12, 1000])
+        most_denominator = min(most, 100)
+        cases.append({
+            "amount": source.randint(1, most),
+            "proposers": [source.randint(0, 1) for step in range(source.randint(1, 12))],
+            "discounts": drawn_fraction(source, most_denominator) + drawn_fraction(source, most_denominator),
+            "final": [source.randint(0, most) for player in range(2)],
+            "extra": drawn_fraction(source, most_denominator) + [source.randint(0, most) for k in range(6)],
+        })
+    return cases
+
+
+class Terms:
+    """The document's terms of one round, each written as the document says it."""
+
+    def __init__(self, negotiation, the_round):
+        extra = negotiation["extra"]
+        proposers = negotiation["proposers"]
+        discounts = negotiation["discounts"]
+        self.proposer = proposers[the_round]
+        self.responder = 1 - self.proposer
+        if the_round + 1 == len(proposers):
+            later = [Fraction(value) for value in negotiation["final"]]
+        else:
+            later = Terms(negotiation, the_round + 1).payoffs
+        x = Fraction(extra[0], extra[1])
+        self.continuation = []
+        for player in (0, 1):
+            d = Fraction(discounts[2 * player], discounts[2 * player + 1])
+            self.continuation.append(x * extra[2 + player] + (1 - x) * d * later[player])
+        self.outside = extra[4:6]
+        self.leaves = self.continuation[self.responder] <= self.outside[self.responder]
+        self.reservation = max(self.continuation[self.responder], Fraction(self.outside[self.responder]))
+        self.rejection = Fraction(extra[6 + self.proposer]) if self.leaves else self.continuation[self.proposer]
+        self.agreement = self.rejection <= negotiation["amount"] - self.reservation
+        self.payoffs = [None, None]
+        self.payoffs[self.responder] = self.reservation
+        self.payoffs[self.proposer] = (
+            negotiation["amount"] - self.reservation if self.agreement else self.rejection)
+
+    def ending(self):
+        return "agreement" if self.agreement else "leaving" if self.leaves else "continuing"
+
+
+def answer(value):
+    """A rational number as the interface answers it."""
+    return [0, value.numerator, value.denominator]
+
+
+class Untouchable(list):
+    """A list that can't be changed, not for a while either."""
+
+    def refuse(self, *args, **kwargs):
+        raise AssertionError("a list that was handed in was changed")
+
+    append = clear = extend = insert = pop = remove = reverse = sort = refuse
+    __setitem__ = __delitem__ = __iadd__ = __imul__ = refuse
+
+
+def untouchable(negotiation):
+    return {name: Untouchable(value) if isinstance(value, list) else value
+            for name, value in negotiation.items()}

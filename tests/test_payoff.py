@@ -1,0 +1,268 @@
+import contextlib
+import copy
+import io
+import unittest
+from fractions import Fraction
+
+from leaveoffers.offers import payoff
+from negotiations import (EXAMPLE, LARGEST, Terms, answer, changed, drawn_negotiations,
+                          negotiations_at_the_limits, negotiations_outside_the_limits, untouchable)
+
+
+def both(negotiation, the_round=0):
+    return [payoff(the_round=the_round, player=player, **negotiation) for player in (0, 1)]
+
+
+class Examples(unittest.TestCase):
+    def test_the_document(self):
+        call = ([0], [1, 2, 1, 2], [2, 4], [1, 4, 0, 0, 0, 3, 1, 0])
+        self.assertEqual(payoff(10, 0, 0, *call), [0, 7, 1])
+        self.assertEqual(payoff(10, 1, 0, *call), [-2])
+
+    def test_the_responder_gets_the_reservation_value(self):
+        self.assertEqual(both(EXAMPLE), [[0, 7, 1], [0, 3, 1]])
+
+
+class OneRound(unittest.TestCase):
+    def test_agreement_with_a_responder_who_would_continue(self):
+        self.assertEqual(both(changed(extra=[1, 4, 0, 0, 0, 1, 1, 0])), [[0, 17, 2], [0, 3, 2]])
+
+    def test_the_other_player_proposes(self):
+        negotiation = changed(proposers=[1], final=[4, 2], extra=[1, 4, 0, 0, 3, 0, 0, 1])
+        self.assertEqual(both(negotiation), [[0, 3, 1], [0, 7, 1]])
+
+    def test_the_responder_leaves(self):
+        self.assertEqual(both(changed(extra=[1, 4, 0, 0, 0, 8, 5, 7])), [[0, 5, 1], [0, 8, 1]])
+        self.assertEqual(both(changed(proposers=[1], extra=[1, 4, 0, 0, 8, 0, 7, 5])), [[0, 8, 1], [0, 5, 1]])
+
+    def test_the_negotiation_continues(self):
+        negotiation = changed(discounts=[1, 1, 1, 1], final=[9, 4], extra=[0, 1, 0, 0, 0, 3, 0, 0])
+        self.assertEqual(both(negotiation), [[0, 9, 1], [0, 4, 1]])
+
+    def test_a_continuation_value_equal_to_the_outside_option_leaves(self):
+        # Continuing would give the proposer 9, more than the 6 of an agreement.
+        negotiation = changed(discounts=[1, 1, 1, 1], final=[9, 4], extra=[0, 1, 0, 0, 0, 4, 0, 0])
+        self.assertEqual(both(negotiation), [[0, 6, 1], [0, 4, 1]])
+        # The abandoned payoff counts, though continuing would give the proposer nothing.
+        negotiation = changed(discounts=[0, 1, 1, 1], extra=[0, 1, 0, 0, 0, 4, 9, 0])
+        self.assertEqual(both(negotiation), [[0, 9, 1], [0, 4, 1]])
+
+    def test_a_rejection_payoff_at_and_beside_the_rest_of_the_amount(self):
+        for abandoned, expected in ((6, 7), (7, 7), (8, 8)):
+            negotiation = changed(extra=[1, 4, 0, 0, 0, 3, abandoned, 0])
+            self.assertEqual(both(negotiation), [[0, expected, 1], [0, 3, 1]])
+
+    def test_final_payoffs_whose_sum_is_greater_than_the_amount(self):
+        negotiation = changed(discounts=[1, 1, 1, 1], final=[8, 9], extra=[0, 1, 0, 0, 0, 0, 0, 0])
+        self.assertEqual(both(negotiation), [[0, 8, 1], [0, 9, 1]])
+
+    def test_a_reservation_value_greater_than_the_amount(self):
+        negotiation = changed(amount=1, extra=[1, 4, 0, 0, 0, 1000, 0, 0])
+        self.assertEqual(both(negotiation), [[0, 0, 1], [0, 1000, 1]])
+
+    def test_breakdown_probabilities_zero_and_one(self):
+        for fraction in ([0, 1], [0, 7]):
+            self.assertEqual(both(changed(extra=fraction + [9, 9, 0, 0, 0, 0])), [[0, 8, 1], [0, 2, 1]])
+        for fraction in ([1, 1], [7, 7]):
+            self.assertEqual(both(changed(extra=fraction + [3, 6, 0, 0, 0, 0])), [[0, 4, 1], [0, 6, 1]])
+
+    def test_discount_factors_zero_and_one(self):
+        extra = [0, 1, 0, 0, 0, 0, 0, 0]
+        self.assertEqual(both(changed(discounts=[0, 1, 0, 1], extra=extra)), [[0, 10, 1], [0, 0, 1]])
+        self.assertEqual(both(changed(discounts=[0, 1, 1, 1], extra=extra)), [[0, 6, 1], [0, 4, 1]])
+        self.assertEqual(both(changed(discounts=[1, 1, 0, 1], extra=extra)), [[0, 10, 1], [0, 0, 1]])
+
+    def test_zero_is_0_over_1(self):
+        # The continuation value of player 1 is 0 out of 100 * 100 here.
+        negotiation = changed(amount=3, discounts=[0, 100, 0, 100], extra=[0, 100, 0, 0, 3, 0, 0, 0])
+        self.assertEqual(both(negotiation), [[0, 3, 1], [0, 0, 1]])
+        self.assertEqual(both(changed(amount=3, extra=[1, 4, 0, 0, 0, 3, 0, 0])), [[0, 0, 1], [0, 3, 1]])
+
+    def test_lowest_terms(self):
+        negotiation = changed(discounts=[50, 100, 30, 90], final=[0, 6], extra=[20, 80, 0, 2, 0, 0, 0, 0])
+        self.assertEqual(both(negotiation), [[0, 8, 1], [0, 2, 1]])
+        negotiation = changed(discounts=[50, 100, 30, 90], final=[0, 7], extra=[20, 80, 0, 2, 0, 0, 0, 0])
+        self.assertEqual(both(negotiation), [[0, 31, 4], [0, 9, 4]])
+
+
+class SeveralRounds(unittest.TestCase):
+    plain = [0, 1, 0, 0, 0, 0, 0, 0]
+
+    def test_alternating_proposers(self):
+        negotiation = changed(proposers=[0, 1, 0], discounts=[1, 2, 1, 3], final=[2, 3], extra=self.plain)
+        self.assertEqual(both(negotiation, 2), [[0, 9, 1], [0, 1, 1]])
+        self.assertEqual(both(negotiation, 1), [[0, 9, 2], [0, 11, 2]])
+        self.assertEqual(both(negotiation, 0), [[0, 49, 6], [0, 11, 6]])
+
+    def test_repeated_proposers(self):
+        negotiation = changed(proposers=[1, 1, 0, 0], discounts=[1, 2, 1, 3], final=[2, 3], extra=self.plain)
+        self.assertEqual(both(negotiation, 3), [[0, 9, 1], [0, 1, 1]])
+        self.assertEqual(both(negotiation, 2), [[0, 29, 3], [0, 1, 3]])
+        self.assertEqual(both(negotiation, 1), [[0, 29, 6], [0, 31, 6]])
+        self.assertEqual(both(negotiation, 0), [[0, 29, 12], [0, 91, 12]])
+
+    def test_a_round_that_continues_before_an_agreement(self):
+        negotiation = changed(
+            proposers=[1, 0], discounts=[1, 1, 1, 1], final=[0, 0], extra=[1, 2, 10, 10, 0, 0, 0, 0])
+        self.assertEqual(both(negotiation, 1), [[0, 5, 1], [0, 5, 1]])
+        self.assertEqual(both(negotiation, 0), [[0, 15, 2], [0, 15, 2]])
+
+    def test_an_agreement_before_a_round_in_which_the_responder_leaves(self):
+        negotiation = changed(proposers=[0, 1], extra=[0, 1, 0, 0, 8, 1, 0, 5])
+        self.assertEqual(both(negotiation, 1), [[0, 8, 1], [0, 5, 1]])
+        self.assertEqual(both(negotiation, 0), [[0, 15, 2], [0, 5, 2]])
+
+    def test_twelve_rounds(self):
+        negotiation = changed(amount=1, proposers=[0, 1] * 6, final=[0, 0], extra=self.plain)
+        self.assertEqual(both(negotiation, 11), [[0, 0, 1], [0, 1, 1]])
+        self.assertEqual(both(negotiation, 10), [[0, 1, 2], [0, 1, 2]])
+        self.assertEqual(both(negotiation, 0), [[0, 1365, 2048], [0, 683, 2048]])
+
+    def test_twelve_rounds_with_large_denominators(self):
+        negotiation = changed(
+            amount=1000, proposers=[0, 1, 1, 0] * 3, discounts=[98, 99, 96, 97], final=[999, 1],
+            extra=[1, 100, 7, 3, 1, 2, 0, 0])
+        for the_round in range(12):
+            expected = [answer(value) for value in Terms(negotiation, the_round).payoffs]
+            self.assertEqual(both(negotiation, the_round), expected)
+
+
+class ByTheWords(unittest.TestCase):
+    """Many negotiations against the document's terms."""
+
+    @classmethod
+    def setUpClass(cls):
+        cls.negotiations = [
+            (negotiation, [Terms(negotiation, the_round) for the_round in range(len(negotiation["proposers"]))])
+            for negotiation in drawn_negotiations(800)]
+        cls.rounds = [(negotiation, the_round, terms)
+                      for negotiation, all_terms in cls.negotiations
+                      for the_round, terms in enumerate(all_terms)]
+
+    def next_payoffs(self, negotiation, the_round):
+        if the_round + 1 == len(negotiation["proposers"]):
+            return [Fraction(value) for value in negotiation["final"]]
+        return [Fraction(*found[1:]) for found in both(negotiation, the_round + 1)]
+
+    def continuation(self, negotiation, the_round, player):
+        breakdown = Fraction(*negotiation["extra"][:2])
+        discount = Fraction(*negotiation["discounts"][2 * player:2 * player + 2])
+        later = self.next_payoffs(negotiation, the_round)[player]
+        return breakdown * negotiation["extra"][2 + player] + (1 - breakdown) * discount * later
+
+    def test_payoffs(self):
+        for negotiation, the_round, terms in self.rounds:
+            expected = [answer(value) for value in terms.payoffs]
+            self.assertEqual(both(negotiation, the_round), expected, (negotiation, the_round))
+
+    def test_the_cases_hold_every_ending_and_both_equalities(self):
+        self.assertEqual({terms.ending() for negotiation, the_round, terms in self.rounds},
+                         {"agreement", "leaving", "continuing"})
+        self.assertTrue(any(terms.continuation[terms.responder] == terms.outside[terms.responder] > 0
+                            for negotiation, the_round, terms in self.rounds))
+        self.assertTrue(any(terms.rejection == negotiation["amount"] - terms.reservation > 0
+                            for negotiation, the_round, terms in self.rounds))
+
+    def test_no_other_offer_gives_the_proposer_more(self):
+        for negotiation, the_round, terms in self.rounds[::7]:
+            found = both(negotiation, the_round)
+            best = Fraction(*found[terms.proposer][1:])
+            least_accepted = Fraction(*found[terms.responder][1:])
+            amount = negotiation["amount"]
+            for twelfths in range(0, 12 * amount + 1, max(1, amount // 4)):
+                offer = Fraction(twelfths, 12)
+                gained = amount - offer if offer >= least_accepted else terms.rejection
+                self.assertLessEqual(gained, best, (negotiation, the_round, offer))
+
+    def test_the_responder_gets_no_less_than_by_rejecting(self):
+        for negotiation, the_round, terms in self.rounds[::3]:
+            responder = terms.responder
+            found = Fraction(*both(negotiation, the_round)[responder][1:])
+            self.assertGreaterEqual(found, negotiation["extra"][4 + responder])
+            self.assertGreaterEqual(found, self.continuation(negotiation, the_round, responder))
+
+    def test_ineffective_outside_options_change_nothing(self):
+        met = 0
+        for negotiation, all_terms in self.negotiations:
+            for the_round in range(len(all_terms)):
+                for player in (0, 1):
+                    option = negotiation["extra"][4 + player]
+                    effective = [terms for terms in all_terms[the_round:]
+                                 if terms.responder == player and terms.continuation[player] <= option]
+                    if option > 0 and not effective:
+                        met += 1
+                        without = copy.deepcopy(negotiation)
+                        without["extra"][4 + player] = 0
+                        self.assertEqual(both(negotiation, the_round), both(without, the_round))
+        self.assertGreater(met, 100)
+
+
+class Limits(unittest.TestCase):
+    def test_within(self):
+        for negotiation in negotiations_at_the_limits():
+            expected = [answer(value) for value in Terms(negotiation, 0).payoffs]
+            self.assertEqual(both(negotiation), expected, negotiation)
+
+    def test_without(self):
+        for negotiation in negotiations_outside_the_limits():
+            self.assertEqual(both(negotiation), [[-22], [-22]], negotiation)
+
+    def test_rounds(self):
+        for rounds in (1, 2, 12):
+            negotiation = changed(proposers=[0] * rounds)
+            self.assertEqual(payoff(the_round=rounds - 1, player=0, **negotiation), [0, 7, 1])
+            for the_round in (rounds, rounds + 1, LARGEST):
+                self.assertEqual(payoff(the_round=the_round, player=0, **negotiation), [-2])
+
+    def test_players(self):
+        for player in (2, 3, LARGEST):
+            self.assertEqual(payoff(the_round=0, player=player, **EXAMPLE), [-2])
+            self.assertEqual(payoff(the_round=1, player=player, **EXAMPLE), [-2])
+
+    def test_limits_come_before_the_round_and_the_player(self):
+        for negotiation in negotiations_outside_the_limits():
+            for the_round, player in ((14, 0), (0, 2), (LARGEST, LARGEST)):
+                self.assertEqual(payoff(the_round=the_round, player=player, **negotiation), [-22], negotiation)
+
+
+class Calls(unittest.TestCase):
+    def cases(self):
+        return (drawn_negotiations(60) + negotiations_at_the_limits()
+                + negotiations_outside_the_limits() + [changed(proposers=[0, 1] * 6)])
+
+    def test_what_is_handed_in_is_not_changed(self):
+        for negotiation in self.cases():
+            before = copy.deepcopy(negotiation)
+            expected = both(negotiation)
+            self.assertEqual(negotiation, before)
+            self.assertEqual(both(untouchable(negotiation)), expected)
+            self.assertLess(payoff(the_round=LARGEST, player=0, **untouchable(negotiation))[0], 0)
+
+    def test_nothing_is_kept_between_calls(self):
+        first = [both(negotiation) for negotiation in self.cases()]
+        for found in first:
+            self.assertIsNot(found[0], found[1])
+        expected = copy.deepcopy(first)
+        for found in first:
+            found[0].append(5)
+            found[1].clear()
+        again = [both(negotiation) for negotiation in reversed(self.cases())]
+        self.assertEqual(again[::-1], expected)
+
+    def test_the_answer_is_a_list_of_whole_numbers(self):
+        for negotiation in self.cases():
+            for found in both(negotiation):
+                self.assertIs(type(found), list)
+                self.assertEqual({type(number) for number in found}, {int})
+                self.assertEqual(len(found), 3 if found[0] == 0 else 1)
+
+    def test_nothing_is_printed(self):
+        printed = io.StringIO()
+        with contextlib.redirect_stdout(printed), contextlib.redirect_stderr(printed):
+            for negotiation in self.cases():
+                both(negotiation)
+        self.assertEqual(printed.getvalue(), "")
+
+
+if __name__ == "__main__":
+    unittest.main()
