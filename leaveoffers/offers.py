@@ -140,3 +140,13 @@ def payoff(amount, the_round, player, proposers, discounts, final, extra):
         return [code]
     value = payoffs_from(amount, the_round, proposers, discounts, final, extra)[player]
     return [0, value[0], value[1]]
+
+
+def reservation_value(amount, the_round, proposers, discounts, final, extra):
+    # The call names no player, and player 0 always exists: only the round can be missing.
+    code = refusal(amount, the_round, 0, proposers, discounts, final, extra)
+    if code != 0:
+        return [code]
+    responder = 1 - proposers[the_round]
+    value = payoffs_from(amount, the_round, proposers, discounts, final, extra)[responder]
+    return [0, value[0], value[1]]

@@ -1,5 +1,8 @@
 """What the tests share: negotiations, wrong ones, and the document's terms over Fraction."""
 
+import contextlib
+import copy
+import io
 import random
 from fractions import Fraction
 
@@ -22,9 +25,9 @@ def changed(**changes):
 
 
 def with_value(values, index, value):
-    copy = list(values)
-    copy[index] = value
-    return copy
+    replaced = list(values)
+    replaced[index] = value
+    return replaced
 
 
 def negotiations_at_the_limits():
@@ -133,3 +136,68 @@ class Untouchable(list):
 def untouchable(negotiation):
     return {name: Untouchable(value) if isinstance(value, list) else value
             for name, value in negotiation.items()}
+
+
+def call_cases():
+    return (drawn_negotiations(60) + negotiations_at_the_limits()
+            + negotiations_outside_the_limits() + [changed(proposers=[0, 1] * 6)])
+
+
+class EveryOperation:
+    """What holds for each operation; a test case gives its answers for a negotiation and a round."""
+
+    def answers(self, negotiation, the_round=0):
+        raise NotImplementedError
+
+    def answers_by_the_words(self, negotiation, the_round=0):
+        raise NotImplementedError
+
+    def test_within_the_limits(self):
+        for negotiation in negotiations_at_the_limits():
+            self.assertEqual(self.answers(negotiation), self.answers_by_the_words(negotiation), negotiation)
+
+    def test_outside_the_limits(self):
+        for negotiation in negotiations_outside_the_limits():
+            for the_round in (0, 14, LARGEST):
+                for found in self.answers(negotiation, the_round):
+                    self.assertEqual(found, [-22], negotiation)
+
+    def test_rounds(self):
+        for rounds in (1, 2, 12):
+            negotiation = changed(proposers=[0] * rounds)
+            self.assertEqual(self.answers(negotiation, rounds - 1),
+                             self.answers_by_the_words(negotiation, rounds - 1))
+            for the_round in (rounds, rounds + 1, LARGEST):
+                for found in self.answers(negotiation, the_round):
+                    self.assertEqual(found, [-2])
+
+    def test_what_is_handed_in_is_not_changed(self):
+        for negotiation in call_cases():
+            for the_round in (0, LARGEST):
+                before = copy.deepcopy(negotiation)
+                expected = self.answers(negotiation, the_round)
+                self.assertEqual(negotiation, before)
+                self.assertEqual(self.answers(untouchable(negotiation), the_round), expected)
+
+    def test_nothing_is_kept_between_calls(self):
+        first = [self.answers(negotiation) for negotiation in call_cases()]
+        expected = copy.deepcopy(first)
+        for answers in first:
+            for found in answers:
+                found.append(5)
+        again = [self.answers(negotiation) for negotiation in reversed(call_cases())]
+        self.assertEqual(again[::-1], expected)
+
+    def test_an_answer_is_a_list_of_whole_numbers(self):
+        for negotiation in call_cases():
+            for found in self.answers(negotiation):
+                self.assertIs(type(found), list)
+                self.assertEqual({type(number) for number in found}, {int})
+                self.assertEqual(len(found), 3 if found[0] == 0 else 1)
+
+    def test_nothing_is_printed(self):
+        printed = io.StringIO()
+        with contextlib.redirect_stdout(printed), contextlib.redirect_stderr(printed):
+            for negotiation in call_cases():
+                self.answers(negotiation)
+        self.assertEqual(printed.getvalue(), "")

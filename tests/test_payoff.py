@@ -1,12 +1,10 @@
-import contextlib
 import copy
-import io
 import unittest
 from fractions import Fraction
 
 from leaveoffers.offers import payoff
-from negotiations import (EXAMPLE, LARGEST, Terms, answer, changed, drawn_negotiations,
-                          negotiations_at_the_limits, negotiations_outside_the_limits, untouchable)
+from negotiations import (EXAMPLE, LARGEST, EveryOperation, Terms, answer, changed, drawn_negotiations,
+                          negotiations_outside_the_limits)
 
 
 def both(negotiation, the_round=0):
@@ -197,71 +195,23 @@ class ByTheWords(unittest.TestCase):
         self.assertGreater(met, 100)
 
 
-class Limits(unittest.TestCase):
-    def test_within(self):
-        for negotiation in negotiations_at_the_limits():
-            expected = [answer(value) for value in Terms(negotiation, 0).payoffs]
-            self.assertEqual(both(negotiation), expected, negotiation)
+class Calls(EveryOperation, unittest.TestCase):
+    def answers(self, negotiation, the_round=0):
+        return both(negotiation, the_round)
 
-    def test_without(self):
-        for negotiation in negotiations_outside_the_limits():
-            self.assertEqual(both(negotiation), [[-22], [-22]], negotiation)
-
-    def test_rounds(self):
-        for rounds in (1, 2, 12):
-            negotiation = changed(proposers=[0] * rounds)
-            self.assertEqual(payoff(the_round=rounds - 1, player=0, **negotiation), [0, 7, 1])
-            for the_round in (rounds, rounds + 1, LARGEST):
-                self.assertEqual(payoff(the_round=the_round, player=0, **negotiation), [-2])
+    def answers_by_the_words(self, negotiation, the_round=0):
+        return [answer(value) for value in Terms(negotiation, the_round).payoffs]
 
     def test_players(self):
         for player in (2, 3, LARGEST):
             self.assertEqual(payoff(the_round=0, player=player, **EXAMPLE), [-2])
             self.assertEqual(payoff(the_round=1, player=player, **EXAMPLE), [-2])
 
-    def test_limits_come_before_the_round_and_the_player(self):
+    def test_limits_come_before_the_player(self):
         for negotiation in negotiations_outside_the_limits():
-            for the_round, player in ((14, 0), (0, 2), (LARGEST, LARGEST)):
-                self.assertEqual(payoff(the_round=the_round, player=player, **negotiation), [-22], negotiation)
-
-
-class Calls(unittest.TestCase):
-    def cases(self):
-        return (drawn_negotiations(60) + negotiations_at_the_limits()
-                + negotiations_outside_the_limits() + [changed(proposers=[0, 1] * 6)])
-
-    def test_what_is_handed_in_is_not_changed(self):
-        for negotiation in self.cases():
-            before = copy.deepcopy(negotiation)
-            expected = both(negotiation)
-            self.assertEqual(negotiation, before)
-            self.assertEqual(both(untouchable(negotiation)), expected)
-            self.assertLess(payoff(the_round=LARGEST, player=0, **untouchable(negotiation))[0], 0)
-
-    def test_nothing_is_kept_between_calls(self):
-        first = [both(negotiation) for negotiation in self.cases()]
-        for found in first:
-            self.assertIsNot(found[0], found[1])
-        expected = copy.deepcopy(first)
-        for found in first:
-            found[0].append(5)
-            found[1].clear()
-        again = [both(negotiation) for negotiation in reversed(self.cases())]
-        self.assertEqual(again[::-1], expected)
-
-    def test_the_answer_is_a_list_of_whole_numbers(self):
-        for negotiation in self.cases():
-            for found in both(negotiation):
-                self.assertIs(type(found), list)
-                self.assertEqual({type(number) for number in found}, {int})
-                self.assertEqual(len(found), 3 if found[0] == 0 else 1)
-
-    def test_nothing_is_printed(self):
-        printed = io.StringIO()
-        with contextlib.redirect_stdout(printed), contextlib.redirect_stderr(printed):
-            for negotiation in self.cases():
-                both(negotiation)
-        self.assertEqual(printed.getvalue(), "")
+            for the_round in (0, LARGEST):
+                for player in (2, LARGEST):
+                    self.assertEqual(payoff(the_round=the_round, player=player, **negotiation), [-22], negotiation)
 
 
 if __name__ == "__main__":
