@@ -69,7 +69,10 @@ def is_negotiation_within_limits(amount, proposers, discounts, final, extra):
 
 
 def refusal(amount, the_round, player, proposers, discounts, final, extra):
-    """The error code of a call, or 0 if it is to be answered."""
+    """The error code of a call, or 0 if it is to be answered.
+
+    An operation without a player hands in player 0, who always exists: only the round can be missing then.
+    """
     if not is_negotiation_within_limits(amount, proposers, discounts, final, extra):
         return -22
     if not (0 <= the_round < len(proposers) and 0 <= player <= 1):
@@ -116,14 +119,35 @@ def rejection_payoff(proposer, later, discounts, extra):
     return continuation_value(proposer, later, discounts, extra)
 
 
+def agreement_payoff(amount, proposer, later, discounts, extra):
+    return whole_minus(amount, responder_payoff(1 - proposer, later, discounts, extra))
+
+
+def is_agreement(amount, proposer, later, discounts, extra):
+    return is_at_most(rejection_payoff(proposer, later, discounts, extra),
+                      agreement_payoff(amount, proposer, later, discounts, extra))
+
+
+def proposer_payoff(amount, proposer, later, discounts, extra):
+    if is_agreement(amount, proposer, later, discounts, extra):
+        return agreement_payoff(amount, proposer, later, discounts, extra)
+    return rejection_payoff(proposer, later, discounts, extra)
+
+
 def round_payoffs(amount, proposer, later, discounts, extra):
+    gained = proposer_payoff(amount, proposer, later, discounts, extra)
     reservation = responder_payoff(1 - proposer, later, discounts, extra)
-    agreed = whole_minus(amount, reservation)
-    rejected = rejection_payoff(proposer, later, discounts, extra)
-    gained = agreed if is_at_most(rejected, agreed) else rejected
     if proposer == 0:
         return (gained, reservation)
     return (reservation, gained)
+
+
+def round_outcome(amount, proposer, later, discounts, extra):
+    if is_agreement(amount, proposer, later, discounts, extra):
+        return 0
+    if does_leave(1 - proposer, later, discounts, extra):
+        return 1
+    return 2
 
 
 def payoffs_from(amount, the_round, proposers, discounts, final, extra):
@@ -143,10 +167,17 @@ def payoff(amount, the_round, player, proposers, discounts, final, extra):
 
 
 def reservation_value(amount, the_round, proposers, discounts, final, extra):
-    # The call names no player, and player 0 always exists: only the round can be missing.
     code = refusal(amount, the_round, 0, proposers, discounts, final, extra)
     if code != 0:
         return [code]
     responder = 1 - proposers[the_round]
     value = payoffs_from(amount, the_round, proposers, discounts, final, extra)[responder]
     return [0, value[0], value[1]]
+
+
+def outcome(amount, the_round, proposers, discounts, final, extra):
+    code = refusal(amount, the_round, 0, proposers, discounts, final, extra)
+    if code != 0:
+        return [code]
+    later = payoffs_from(amount, the_round + 1, proposers, discounts, final, extra)
+    return [round_outcome(amount, proposers[the_round], later, discounts, extra)]

@@ -117,6 +117,16 @@ class Terms:
     def ending(self):
         return "agreement" if self.agreement else "leaving" if self.leaves else "continuing"
 
+    def outcome(self):
+        return {"agreement": 0, "leaving": 1, "continuing": 2}[self.ending()]
+
+
+def drawn_rounds(count):
+    """Every round of so many negotiations, with the negotiation and the terms of the round."""
+    return [(negotiation, the_round, Terms(negotiation, the_round))
+            for negotiation in drawn_negotiations(count)
+            for the_round in range(len(negotiation["proposers"]))]
+
 
 def answer(value):
     """A rational number as the interface answers it."""
@@ -145,6 +155,8 @@ def call_cases():
 
 class EveryOperation:
     """What holds for each operation; a test case gives its answers for a negotiation and a round."""
+
+    numbers_of_an_answer = 3
 
     def answers(self, negotiation, the_round=0):
         raise NotImplementedError
@@ -193,7 +205,7 @@ class EveryOperation:
             for found in self.answers(negotiation):
                 self.assertIs(type(found), list)
                 self.assertEqual({type(number) for number in found}, {int})
-                self.assertEqual(len(found), 3 if found[0] == 0 else 1)
+                self.assertEqual(len(found), 1 if found[0] < 0 else self.numbers_of_an_answer)
 
     def test_nothing_is_printed(self):
         printed = io.StringIO()

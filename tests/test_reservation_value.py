@@ -1,7 +1,7 @@
 import unittest
 
 from leaveoffers.offers import payoff, reservation_value
-from negotiations import EXAMPLE, EveryOperation, Terms, answer, changed, drawn_negotiations
+from negotiations import EXAMPLE, EveryOperation, Terms, answer, changed, drawn_rounds
 
 
 def found(negotiation, the_round=0):
@@ -83,9 +83,7 @@ class ByTheWords(unittest.TestCase):
 
     @classmethod
     def setUpClass(cls):
-        cls.rounds = [(negotiation, the_round, Terms(negotiation, the_round))
-                      for negotiation in drawn_negotiations(400)
-                      for the_round in range(len(negotiation["proposers"]))]
+        cls.rounds = drawn_rounds(400)
 
     def test_reservation_values(self):
         for negotiation, the_round, terms in self.rounds:
