@@ -8,6 +8,7 @@ MOST_AMOUNT = 1000
 MOST_ROUNDS = 12
 MOST_DENOMINATOR = 100
 MOST_PAYOFF = 1000
+MOST_OFFER_DENOMINATOR = 1000
 
 
 def greatest_common_divisor(first, second):
@@ -66,6 +67,10 @@ def is_negotiation_within_limits(amount, proposers, discounts, final, extra):
             and len(final) == 2
             and are_payoffs_within_limits(final)
             and is_extra_within_limits(extra))
+
+
+def is_offer_within_limits(amount, num, den):
+    return 1 <= den <= MOST_OFFER_DENOMINATOR and num <= amount * den
 
 
 def refusal(amount, the_round, player, proposers, discounts, final, extra):
@@ -150,6 +155,13 @@ def round_outcome(amount, proposer, later, discounts, extra):
     return 2
 
 
+def offer_payoff(amount, offer, proposer, later, discounts, extra):
+    """What the proposer gets with this offer."""
+    if is_at_most(responder_payoff(1 - proposer, later, discounts, extra), offer):
+        return whole_minus(amount, offer)
+    return rejection_payoff(proposer, later, discounts, extra)
+
+
 def payoffs_from(amount, the_round, proposers, discounts, final, extra):
     """The payoffs of the round; behind the last round, the final payoffs."""
     payoffs = ((final[0], 1), (final[1], 1))
@@ -181,3 +193,14 @@ def outcome(amount, the_round, proposers, discounts, final, extra):
         return [code]
     later = payoffs_from(amount, the_round + 1, proposers, discounts, final, extra)
     return [round_outcome(amount, proposers[the_round], later, discounts, extra)]
+
+
+def payoff_of_offer(amount, the_round, num, den, proposers, discounts, final, extra):
+    code = refusal(amount, the_round, 0, proposers, discounts, final, extra)
+    if code != 0:
+        return [code]
+    if not is_offer_within_limits(amount, num, den):
+        return [-22]
+    later = payoffs_from(amount, the_round + 1, proposers, discounts, final, extra)
+    value = offer_payoff(amount, lowest_terms(num, den), proposers[the_round], later, discounts, extra)
+    return [0, value[0], value[1]]

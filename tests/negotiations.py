@@ -30,6 +30,22 @@ def with_value(values, index, value):
     return replaced
 
 
+def swapped(pairs):
+    return [number for k in range(0, len(pairs), 2) for number in (pairs[k + 1], pairs[k])]
+
+
+def mirrored(negotiation):
+    """The same negotiation with the players' names exchanged."""
+    discounts = negotiation["discounts"]
+    return {
+        "amount": negotiation["amount"],
+        "proposers": [1 - proposer for proposer in negotiation["proposers"]],
+        "discounts": discounts[2:] + discounts[:2],
+        "final": swapped(negotiation["final"]),
+        "extra": negotiation["extra"][:2] + swapped(negotiation["extra"][2:]),
+    }
+
+
 def negotiations_at_the_limits():
     """Each limit of the table from within."""
     cases = [changed(amount=1), changed(amount=1000)]
@@ -93,6 +109,7 @@ class Terms:
         extra = negotiation["extra"]
         proposers = negotiation["proposers"]
         discounts = negotiation["discounts"]
+        self.amount = negotiation["amount"]
         self.proposer = proposers[the_round]
         self.responder = 1 - self.proposer
         if the_round + 1 == len(proposers):
@@ -108,17 +125,19 @@ class Terms:
         self.leaves = self.continuation[self.responder] <= self.outside[self.responder]
         self.reservation = max(self.continuation[self.responder], Fraction(self.outside[self.responder]))
         self.rejection = Fraction(extra[6 + self.proposer]) if self.leaves else self.continuation[self.proposer]
-        self.agreement = self.rejection <= negotiation["amount"] - self.reservation
+        self.agreement = self.rejection <= self.amount - self.reservation
         self.payoffs = [None, None]
         self.payoffs[self.responder] = self.reservation
-        self.payoffs[self.proposer] = (
-            negotiation["amount"] - self.reservation if self.agreement else self.rejection)
+        self.payoffs[self.proposer] = self.amount - self.reservation if self.agreement else self.rejection
 
     def ending(self):
         return "agreement" if self.agreement else "leaving" if self.leaves else "continuing"
 
     def outcome(self):
         return {"agreement": 0, "leaving": 1, "continuing": 2}[self.ending()]
+
+    def payoff_of_offer(self, offer):
+        return self.amount - offer if offer >= self.reservation else self.rejection
 
 
 def drawn_rounds(count):

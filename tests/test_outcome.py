@@ -2,27 +2,11 @@ import unittest
 from fractions import Fraction
 
 from leaveoffers.offers import outcome, payoff, reservation_value
-from negotiations import EXAMPLE, EveryOperation, Terms, changed, drawn_rounds
+from negotiations import EXAMPLE, EveryOperation, Terms, changed, drawn_rounds, mirrored
 
 
 def found(negotiation, the_round=0):
     return outcome(the_round=the_round, **negotiation)
-
-
-def swapped(pairs):
-    return [number for k in range(0, len(pairs), 2) for number in (pairs[k + 1], pairs[k])]
-
-
-def mirrored(negotiation):
-    """The same negotiation with the players' names exchanged."""
-    discounts = negotiation["discounts"]
-    return {
-        "amount": negotiation["amount"],
-        "proposers": [1 - proposer for proposer in negotiation["proposers"]],
-        "discounts": discounts[2:] + discounts[:2],
-        "final": swapped(negotiation["final"]),
-        "extra": negotiation["extra"][:2] + swapped(negotiation["extra"][2:]),
-    }
 
 
 class Examples(unittest.TestCase):

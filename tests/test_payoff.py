@@ -163,14 +163,11 @@ class ByTheWords(unittest.TestCase):
 
     def test_no_other_offer_gives_the_proposer_more(self):
         for negotiation, the_round, terms in self.rounds[::7]:
-            found = both(negotiation, the_round)
-            best = Fraction(*found[terms.proposer][1:])
-            least_accepted = Fraction(*found[terms.responder][1:])
+            best = Fraction(*both(negotiation, the_round)[terms.proposer][1:])
             amount = negotiation["amount"]
             for twelfths in range(0, 12 * amount + 1, max(1, amount // 4)):
-                offer = Fraction(twelfths, 12)
-                gained = amount - offer if offer >= least_accepted else terms.rejection
-                self.assertLessEqual(gained, best, (negotiation, the_round, offer))
+                gained = terms.payoff_of_offer(Fraction(twelfths, 12))
+                self.assertLessEqual(gained, best, (negotiation, the_round, twelfths))
 
     def test_the_responder_gets_no_less_than_by_rejecting(self):
         for negotiation, the_round, terms in self.rounds[::3]:
