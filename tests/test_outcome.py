@@ -76,6 +76,11 @@ class OneRound(Outcomes):
         self.assert_outcomes(changed(final=[0, 21], extra=[0, 1, 0, 0, 0, 0, 0, 0]), [2])
         self.assert_outcomes(changed(amount=1, final=[0, 1000], extra=[0, 1, 0, 0, 0, 0, 0, 0]), [2])
 
+    def test_a_reservation_value_of_zero(self):
+        # The words of the terms: no agreement, though every offer would be accepted.
+        for abandoned, expected in ((9, 0), (10, 0), (11, 1)):
+            self.assert_outcomes(changed(extra=[1, 1, 0, 0, 0, 0, abandoned, 0]), [expected])
+
     def test_breakdown_probability_zero(self):
         for fraction in ([0, 1], [0, 7]):
             self.assert_outcomes(changed(extra=fraction + [1000, 1000, 0, 0, 0, 0]), [0])
