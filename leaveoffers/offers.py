@@ -162,6 +162,21 @@ def offer_payoff(amount, offer, proposer, later, discounts, extra):
     return rejection_payoff(proposer, later, discounts, extra)
 
 
+def ending_probabilities(outcomes, extra):
+    """The probabilities of an agreement, leaving, a breakdown and passing the last round, by the rounds' outcomes."""
+    place = 3
+    reached = (1, 1)
+    for ending in outcomes:
+        if ending != 2:
+            # Agreement and leaving stand in the order of their outcomes; no round behind this one is reached.
+            place = ending
+            break
+        reached = lowest_terms(reached[0] * (extra[1] - extra[0]), reached[1] * extra[1])
+    probabilities = [(0, 1), (0, 1), whole_minus(1, reached), (0, 1)]
+    probabilities[place] = reached
+    return probabilities
+
+
 def payoffs_from(amount, the_round, proposers, discounts, final, extra):
     """The payoffs of the round; behind the last round, the final payoffs."""
     payoffs = ((final[0], 1), (final[1], 1))
@@ -170,12 +185,24 @@ def payoffs_from(amount, the_round, proposers, discounts, final, extra):
     return payoffs
 
 
+def outcome_of_round(amount, the_round, proposers, discounts, final, extra):
+    later = payoffs_from(amount, the_round + 1, proposers, discounts, final, extra)
+    return round_outcome(amount, proposers[the_round], later, discounts, extra)
+
+
+def answer_with(values):
+    numbers = [0]
+    for value in values:
+        numbers.extend(value)
+    return numbers
+
+
 def payoff(amount, the_round, player, proposers, discounts, final, extra):
     code = refusal(amount, the_round, player, proposers, discounts, final, extra)
     if code != 0:
         return [code]
     value = payoffs_from(amount, the_round, proposers, discounts, final, extra)[player]
-    return [0, value[0], value[1]]
+    return answer_with([value])
 
 
 def reservation_value(amount, the_round, proposers, discounts, final, extra):
@@ -184,15 +211,14 @@ def reservation_value(amount, the_round, proposers, discounts, final, extra):
         return [code]
     responder = 1 - proposers[the_round]
     value = payoffs_from(amount, the_round, proposers, discounts, final, extra)[responder]
-    return [0, value[0], value[1]]
+    return answer_with([value])
 
 
 def outcome(amount, the_round, proposers, discounts, final, extra):
     code = refusal(amount, the_round, 0, proposers, discounts, final, extra)
     if code != 0:
         return [code]
-    later = payoffs_from(amount, the_round + 1, proposers, discounts, final, extra)
-    return [round_outcome(amount, proposers[the_round], later, discounts, extra)]
+    return [outcome_of_round(amount, the_round, proposers, discounts, final, extra)]
 
 
 def payoff_of_offer(amount, the_round, num, den, proposers, discounts, final, extra):
@@ -203,4 +229,13 @@ def payoff_of_offer(amount, the_round, num, den, proposers, discounts, final, ex
         return [-22]
     later = payoffs_from(amount, the_round + 1, proposers, discounts, final, extra)
     value = offer_payoff(amount, lowest_terms(num, den), proposers[the_round], later, discounts, extra)
-    return [0, value[0], value[1]]
+    return answer_with([value])
+
+
+def outcome_probabilities(amount, the_round, proposers, discounts, final, extra):
+    code = refusal(amount, the_round, 0, proposers, discounts, final, extra)
+    if code != 0:
+        return [code]
+    outcomes = [outcome_of_round(amount, each, proposers, discounts, final, extra)
+                for each in range(the_round, len(proposers))]
+    return answer_with(ending_probabilities(outcomes, extra))

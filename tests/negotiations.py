@@ -113,10 +113,13 @@ class Terms:
         self.proposer = proposers[the_round]
         self.responder = 1 - self.proposer
         if the_round + 1 == len(proposers):
+            self.next_round = None
             later = [Fraction(value) for value in negotiation["final"]]
         else:
-            later = Terms(negotiation, the_round + 1).payoffs
+            self.next_round = Terms(negotiation, the_round + 1)
+            later = self.next_round.payoffs
         x = Fraction(extra[0], extra[1])
+        self.breakdown = x
         self.continuation = []
         for player in (0, 1):
             d = Fraction(discounts[2 * player], discounts[2 * player + 1])
@@ -136,6 +139,17 @@ class Terms:
     def outcome(self):
         return {"agreement": 0, "leaving": 1, "continuing": 2}[self.ending()]
 
+    def probabilities(self):
+        """Of an agreement, that a responder leaves, of a breakdown and of passing the last round."""
+        if self.agreement:
+            return [Fraction(1), Fraction(0), Fraction(0), Fraction(0)]
+        if self.leaves:
+            return [Fraction(0), Fraction(1), Fraction(0), Fraction(0)]
+        later = [0, 0, 0, 1] if self.next_round is None else self.next_round.probabilities()
+        continued = [(1 - self.breakdown) * probability for probability in later]
+        continued[2] += self.breakdown
+        return continued
+
     def payoff_of_offer(self, offer):
         return self.amount - offer if offer >= self.reservation else self.rejection
 
@@ -147,9 +161,9 @@ def drawn_rounds(count):
             for the_round in range(len(negotiation["proposers"]))]
 
 
-def answer(value):
-    """A rational number as the interface answers it."""
-    return [0, value.numerator, value.denominator]
+def answer(*values):
+    """Rational numbers as the interface answers them."""
+    return [0] + [number for value in values for number in (value.numerator, value.denominator)]
 
 
 class Untouchable(list):
