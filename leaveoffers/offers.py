@@ -35,6 +35,10 @@ def whole_minus(whole, value):
     return (whole * value[1] - value[0], value[1])
 
 
+def minus(left, right):
+    return lowest_terms(left[0] * right[1] - right[0] * left[1], left[1] * right[1])
+
+
 def is_fraction_within_limits(numerator, denominator):
     return 1 <= denominator <= MOST_DENOMINATOR and 0 <= numerator <= denominator
 
@@ -87,6 +91,13 @@ def refusal(amount, the_round, player, proposers, discounts, final, extra):
 
 def outside_option(player, extra):
     return (extra[4 + player], 1)
+
+
+def without_outside_option(player, extra):
+    # A copy, as what was handed in is not changed, not for a while either.
+    copied = list(extra)
+    copied[4 + player] = 0
+    return copied
 
 
 def abandoned_payoff(player, extra):
@@ -239,3 +250,13 @@ def outcome_probabilities(amount, the_round, proposers, discounts, final, extra)
     outcomes = [outcome_of_round(amount, each, proposers, discounts, final, extra)
                 for each in range(the_round, len(proposers))]
     return answer_with(ending_probabilities(outcomes, extra))
+
+
+def value_of_outside_option(amount, the_round, player, proposers, discounts, final, extra):
+    code = refusal(amount, the_round, player, proposers, discounts, final, extra)
+    if code != 0:
+        return [code]
+    bare = without_outside_option(player, extra)
+    value = payoffs_from(amount, the_round, proposers, discounts, final, extra)[player]
+    bare_value = payoffs_from(amount, the_round, proposers, discounts, final, bare)[player]
+    return answer_with([minus(value, bare_value)])

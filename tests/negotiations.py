@@ -46,6 +46,11 @@ def mirrored(negotiation):
     }
 
 
+def without_option(negotiation, player):
+    """The same negotiation with the player's outside option at 0."""
+    return dict(negotiation, extra=with_value(negotiation["extra"], 4 + player, 0))
+
+
 def negotiations_at_the_limits():
     """Each limit of the table from within."""
     cases = [changed(amount=1), changed(amount=1000)]
@@ -102,6 +107,19 @@ def drawn_negotiations(count):
     return cases
 
 
+def offers_around(value, amount):
+    """The offers within the limits that are closest to the value, and those at both ends."""
+    offers = [(0, 1), (0, 1000), (amount, 1), (amount * 1000, 1000)]
+    for den in (1, 2, 7, 997, 999, 1000):
+        below = value.numerator * den // value.denominator
+        offers += [(num, den) for num in (below - 1, below, below + 1) if 0 <= num <= amount * den]
+    if value <= amount and value.denominator <= 1000:
+        factor = 1000 // value.denominator
+        offers.append((value.numerator, value.denominator))
+        offers.append((value.numerator * factor, value.denominator * factor))
+    return offers
+
+
 class Terms:
     """The document's terms of one round, each written as the document says it."""
 
@@ -132,6 +150,9 @@ class Terms:
         self.payoffs = [None, None]
         self.payoffs[self.responder] = self.reservation
         self.payoffs[self.proposer] = self.amount - self.reservation if self.agreement else self.rejection
+
+    def rounds_from_here(self):
+        return [self] + ([] if self.next_round is None else self.next_round.rounds_from_here())
 
     def ending(self):
         return "agreement" if self.agreement else "leaving" if self.leaves else "continuing"

@@ -1,9 +1,7 @@
-import copy
 import unittest
-from fractions import Fraction
 
 from leaveoffers.offers import payoff
-from negotiations import (EXAMPLE, LARGEST, EveryOperation, Terms, answer, changed, drawn_negotiations,
+from negotiations import (EXAMPLE, LARGEST, EveryOperation, Terms, answer, changed, drawn_rounds,
                           negotiations_outside_the_limits)
 
 
@@ -130,23 +128,7 @@ class ByTheWords(unittest.TestCase):
 
     @classmethod
     def setUpClass(cls):
-        cls.negotiations = [
-            (negotiation, [Terms(negotiation, the_round) for the_round in range(len(negotiation["proposers"]))])
-            for negotiation in drawn_negotiations(800)]
-        cls.rounds = [(negotiation, the_round, terms)
-                      for negotiation, all_terms in cls.negotiations
-                      for the_round, terms in enumerate(all_terms)]
-
-    def next_payoffs(self, negotiation, the_round):
-        if the_round + 1 == len(negotiation["proposers"]):
-            return [Fraction(value) for value in negotiation["final"]]
-        return [Fraction(*found[1:]) for found in both(negotiation, the_round + 1)]
-
-    def continuation(self, negotiation, the_round, player):
-        breakdown = Fraction(*negotiation["extra"][:2])
-        discount = Fraction(*negotiation["discounts"][2 * player:2 * player + 2])
-        later = self.next_payoffs(negotiation, the_round)[player]
-        return breakdown * negotiation["extra"][2 + player] + (1 - breakdown) * discount * later
+        cls.rounds = drawn_rounds(800)
 
     def test_payoffs(self):
         for negotiation, the_round, terms in self.rounds:
@@ -160,36 +142,6 @@ class ByTheWords(unittest.TestCase):
                             for negotiation, the_round, terms in self.rounds))
         self.assertTrue(any(terms.rejection == negotiation["amount"] - terms.reservation > 0
                             for negotiation, the_round, terms in self.rounds))
-
-    def test_no_other_offer_gives_the_proposer_more(self):
-        for negotiation, the_round, terms in self.rounds[::7]:
-            best = Fraction(*both(negotiation, the_round)[terms.proposer][1:])
-            amount = negotiation["amount"]
-            for twelfths in range(0, 12 * amount + 1, max(1, amount // 4)):
-                gained = terms.payoff_of_offer(Fraction(twelfths, 12))
-                self.assertLessEqual(gained, best, (negotiation, the_round, twelfths))
-
-    def test_the_responder_gets_no_less_than_by_rejecting(self):
-        for negotiation, the_round, terms in self.rounds[::3]:
-            responder = terms.responder
-            found = Fraction(*both(negotiation, the_round)[responder][1:])
-            self.assertGreaterEqual(found, negotiation["extra"][4 + responder])
-            self.assertGreaterEqual(found, self.continuation(negotiation, the_round, responder))
-
-    def test_ineffective_outside_options_change_nothing(self):
-        met = 0
-        for negotiation, all_terms in self.negotiations:
-            for the_round in range(len(all_terms)):
-                for player in (0, 1):
-                    option = negotiation["extra"][4 + player]
-                    effective = [terms for terms in all_terms[the_round:]
-                                 if terms.responder == player and terms.continuation[player] <= option]
-                    if option > 0 and not effective:
-                        met += 1
-                        without = copy.deepcopy(negotiation)
-                        without["extra"][4 + player] = 0
-                        self.assertEqual(both(negotiation, the_round), both(without, the_round))
-        self.assertGreater(met, 100)
 
 
 class Calls(EveryOperation, unittest.TestCase):

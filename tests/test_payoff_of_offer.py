@@ -3,24 +3,11 @@ from fractions import Fraction
 
 from leaveoffers.offers import outcome, payoff, payoff_of_offer, reservation_value
 from negotiations import (EXAMPLE, LARGEST, EveryOperation, Terms, answer, changed, drawn_rounds, mirrored,
-                          negotiations_outside_the_limits)
+                          negotiations_outside_the_limits, offers_around)
 
 
 def found(negotiation, num, den, the_round=0):
     return payoff_of_offer(the_round=the_round, num=num, den=den, **negotiation)
-
-
-def offers_around(value, amount):
-    """The offers within the limits that are closest to the value, and those at both ends."""
-    offers = [(0, 1), (0, 1000), (amount, 1), (amount * 1000, 1000)]
-    for den in (1, 2, 7, 997, 999, 1000):
-        below = value.numerator * den // value.denominator
-        offers += [(num, den) for num in (below - 1, below, below + 1) if 0 <= num <= amount * den]
-    if value <= amount and value.denominator <= 1000:
-        factor = 1000 // value.denominator
-        offers.append((value.numerator, value.denominator))
-        offers.append((value.numerator * factor, value.denominator * factor))
-    return offers
 
 
 class Examples(unittest.TestCase):
@@ -146,26 +133,6 @@ class ByTheWords(unittest.TestCase):
                 self.assertEqual(found(negotiation, num, den, the_round),
                                  answer(terms.payoff_of_offer(Fraction(num, den))),
                                  (negotiation, the_round, num, den))
-
-    def test_no_offer_gives_the_proposer_more_than_the_payoff(self):
-        seen = set()
-        for negotiation, the_round, terms in self.rounds:
-            proposer = negotiation["proposers"][the_round]
-            best = Fraction(*payoff(the_round=the_round, player=proposer, **negotiation)[1:])
-            seen.add((outcome(the_round=the_round, **negotiation)[0], proposer))
-            for num, den in offers_around(terms.reservation, negotiation["amount"]):
-                gained = Fraction(*found(negotiation, num, den, the_round)[1:])
-                self.assertLessEqual(gained, best, (negotiation, the_round, num, den))
-        self.assertEqual(seen, {(ending, proposer) for ending in (0, 1, 2) for proposer in (0, 1)})
-
-    def test_no_offer_of_all_with_small_denominators_gives_more(self):
-        for negotiation, the_round, terms in self.rounds[::9]:
-            best = Fraction(*payoff(the_round=the_round, player=terms.proposer, **negotiation)[1:])
-            amount = negotiation["amount"]
-            offers = [(num, den) for den in range(1, 9) for num in range(0, amount * den + 1, 1 + amount // 20)]
-            for num, den in offers:
-                gained = Fraction(*found(negotiation, num, den, the_round)[1:])
-                self.assertLessEqual(gained, best, (negotiation, the_round, num, den))
 
     def test_the_best_offer_gives_the_payoff(self):
         met = set()
