@@ -70,7 +70,7 @@ class Equilibrium(unittest.TestCase):
 
     @classmethod
     def setUpClass(cls):
-        cls.rounds = [(negotiation, the_round) for negotiation, the_round, terms in drawn_rounds(300)]
+        cls.rounds = [(negotiation, the_round) for negotiation, the_round, terms in drawn_rounds(400)]
 
     def assert_none_gives_more(self, negotiation, the_round, all_offers):
         best = payoffs_of(negotiation, the_round)[negotiation["proposers"][the_round]]
@@ -115,7 +115,7 @@ class IneffectiveOutsideOptions(unittest.TestCase):
 
     def test_the_payoffs_are_the_same_without_them(self):
         met = {0: 0, 1: 0}
-        for negotiation, the_round, terms in drawn_rounds(400):
+        for negotiation, the_round, terms in drawn_rounds(800):
             for player in (0, 1):
                 option = negotiation["extra"][4 + player]
                 if option > 0 and self.is_ineffective(negotiation, the_round, player):
@@ -123,7 +123,7 @@ class IneffectiveOutsideOptions(unittest.TestCase):
                     self.assert_the_same(negotiation, without_option(negotiation, player), the_round)
                     self.assertEqual(
                         value_of_outside_option(the_round=the_round, player=player, **negotiation), [0, 0, 1])
-        self.assertGreater(min(met.values()), 50)
+        self.assertGreater(min(met.values()), 100)
 
     def assert_the_same(self, negotiation, without, the_round):
         self.assertEqual(payoffs_of(negotiation, the_round), payoffs_of(without, the_round))
